@@ -1,0 +1,1 @@
+"""Roomsday: rooms, teams, and whatever runs over."""
